@@ -139,6 +139,11 @@ func quotientAndRest(p int64, a, b Poly) (Poly, Poly) {
 	return Poly(quotient[:MaxDegree+1]), rest
 }
 
+func restOf(p int64, a, m Poly) Poly {
+	_, rest := quotientAndRest(p, a, m)
+	return rest
+}
+
 func restOfProduct(p int64, a, b, m Poly) Poly {
 	_, rest := longDivision(p, wideProduct(p, a, b), m)
 	return rest
@@ -179,6 +184,12 @@ func power(a Poly, k int64, times func(Poly, Poly) Poly) Poly {
 		}
 	}
 	return result
+}
+
+func powerModulo(p int64, a Poly, k int64, m Poly) Poly {
+	times := func(x, y Poly) Poly { return restOfProduct(p, x, y, m) }
+	// The power 0 is 1, which is no rest yet if m is a number.
+	return restOf(p, power(a, k, times), m)
 }
 
 func valueAt(p int64, a Poly, x int64) int64 {
@@ -346,10 +357,7 @@ func PowerModulo(p int64, a Poly, k int64, m Poly) (Poly, int64) {
 	if m == (Poly{}) {
 		return Poly{}, ErrState
 	}
-	times := func(x, y Poly) Poly { return restOfProduct(p, x, y, m) }
-	// The power 0 is 1, which is no rest yet if m is a number.
-	_, rest := quotientAndRest(p, power(a, k, times), m)
-	return rest, ErrNone
+	return powerModulo(p, a, k, m), ErrNone
 }
 
 // ComposePolys returns what arises if T is replaced by b in a, and ErrNone.

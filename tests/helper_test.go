@@ -68,6 +68,13 @@ func (s *sampler) upTo(p int64, n int) impl.Poly {
 	return s.poly(p, int(s.below(int64(n)+2))-1)
 }
 
+// monic returns a monic polynomial of the degree n.
+func (s *sampler) monic(p int64, n int) impl.Poly {
+	a := s.poly(p, n)
+	a[n] = 1
+	return a
+}
+
 // plain is a polynomial with as many coefficients as it needs, none of them 0 at its end.
 type plain []int64
 

@@ -1,6 +1,7 @@
 package tests
 
 import (
+	"slices"
 	"strconv"
 	"testing"
 
@@ -40,8 +41,12 @@ func callsOfChapter1() []call {
 	}
 }
 
+func allCalls() []call {
+	return append(callsOfChapter1(), callsOfChapter2()...)
+}
+
 func TestWrongPrimesComeFirst(t *testing.T) {
-	for _, c := range callsOfChapter1() {
+	for _, c := range allCalls() {
 		for _, p := range notPrimes {
 			name := c.name + " for " + strconv.FormatInt(p, 10)
 			expectCode(t, name, c.run(p, make([]impl.Poly, c.polys)), impl.ErrInvalid)
@@ -56,12 +61,12 @@ func TestWrongPrimesComeFirst(t *testing.T) {
 
 // The other polynomial is 0, or so great that a result would be too great: both come later.
 func TestWrongPolysComeFirst(t *testing.T) {
-	for _, c := range callsOfChapter1() {
+	for _, c := range allCalls() {
 		for _, p := range primes {
 			for place := range c.polys {
 				for _, at := range []int{0, 1, 62, 63} {
 					for _, other := range []impl.Poly{{}, full(p, 63)} {
-						list := []impl.Poly{other, other}
+						list := slices.Repeat([]impl.Poly{other}, c.polys)
 						list[place][at] = byte(p)
 						expectCode(t, c.name, c.run(p, list), impl.ErrInvalid)
 						list[place][at] = 255

@@ -92,3 +92,133 @@ func TestGuaranteeOfChapter1(t *testing.T) {
 		}
 	}
 }
+
+// Promise 2: factors multiply to the polynomial, units to the power of the Euler number have the
+// rest 1, and symbols are multiplicative and reciprocal.
+func TestPromise2(t *testing.T) {
+	s := &sampler{state: 31}
+	for _, p := range primes {
+		for range 40 {
+			checkFactorsMultiply(t, p, s.poly(p, int(s.below(impl.MaxSplit+1))))
+			checkEulerPower(t, p, s.upTo(p, 63), s.poly(p, 1+int(s.below(impl.MaxSplit))))
+		}
+		for range 300 {
+			m, n := s.monic(p, 1+int(s.below(6))), s.monic(p, 1+int(s.below(6)))
+			checkSymbolsMultiply(t, p, s.upTo(p, 31), s.upTo(p, 31), m, n)
+			checkReciprocity(t, p, s.monic(p, 1+int(s.below(impl.MaxSplit))), product(t, p, m, n))
+			checkReciprocity(t, p, m, n)
+		}
+	}
+}
+
+func checkFactorsMultiply(t *testing.T, p int64, a impl.Poly) {
+	t.Helper()
+	ok := must[impl.Poly](t)
+	all := impl.Poly{a[must[int64](t)(impl.DegreeOf(p, a))]}
+	factors := must[[]impl.Factor](t)(impl.FactorsOf(p, a))
+	for i, f := range factors {
+		if !must[bool](t)(impl.IsIrreducible(p, f.Prime)) || f.Power < 1 {
+			t.Errorf("%d: %v has the factor %v", p, a, f)
+		}
+		before := max(i-1, 0)
+		less := must[int64](t)(impl.NumberOfPoly(p, factors[before].Prime))
+		if i > 0 && less >= must[int64](t)(impl.NumberOfPoly(p, f.Prime)) {
+			t.Errorf("%d: the factors of %v are not in order", p, a)
+		}
+		all = ok(impl.MultiplyPolys(p, all, ok(impl.PowerOf(p, f.Prime, f.Power))))
+	}
+	if all != a {
+		t.Errorf("%d: the factors of %v multiply to %v", p, a, all)
+	}
+}
+
+func checkEulerPower(t *testing.T, p int64, a, m impl.Poly) {
+	t.Helper()
+	ok := must[impl.Poly](t)
+	if ok(impl.GcdOf(p, a, m)) != (impl.Poly{1}) {
+		return
+	}
+	euler := must[int64](t)(impl.EulerOf(p, m))
+	if power := ok(impl.PowerModulo(p, a, euler, m)); power != (impl.Poly{1}) {
+		t.Errorf("%d: %v to the power %d is %v modulo %v", p, a, euler, power, m)
+	}
+}
+
+func checkSymbolsMultiply(t *testing.T, p int64, a, b, m, n impl.Poly) {
+	t.Helper()
+	ok, symbol := must[impl.Poly](t), must[int64](t)
+	apart := symbol(impl.SymbolOf(p, a, m)) * symbol(impl.SymbolOf(p, b, m)) % p
+	if symbol(impl.SymbolOf(p, ok(impl.MultiplyPolys(p, a, b)), m)) != apart {
+		t.Errorf("%d: the symbols of %v and %v for %v do not multiply", p, a, b, m)
+	}
+	apart = symbol(impl.SymbolOf(p, a, m)) * symbol(impl.SymbolOf(p, a, n)) % p
+	if symbol(impl.SymbolOf(p, a, ok(impl.MultiplyPolys(p, m, n)))) != apart {
+		t.Errorf("%d: the symbols of %v for %v and %v do not multiply", p, a, m, n)
+	}
+}
+
+func checkReciprocity(t *testing.T, p int64, a, b impl.Poly) {
+	t.Helper()
+	degree, symbol := must[int64](t), must[int64](t)
+	want := symbol(impl.SymbolOf(p, b, a))
+	if degree(impl.DegreeOf(p, a))*degree(impl.DegreeOf(p, b))%2 == 1 {
+		want = want * (p - 1) % p
+	}
+	if must[impl.Poly](t)(impl.GcdOf(p, a, b)) != (impl.Poly{1}) {
+		want = 0
+	}
+	if symbol(impl.SymbolOf(p, a, b)) != want {
+		t.Errorf("%d: the symbol of %v and %v is not %d", p, a, b, want)
+	}
+}
+
+// Promise 12: there are as many irreducible polynomials of a degree as are counted.
+func TestPromise12(t *testing.T) {
+	greatest := map[int64]int64{2: 8, 3: 5, 5: 3, 7: 3}
+	for _, p := range primes {
+		for n := int64(1); n <= greatest[p]; n++ {
+			list := must[[]impl.Poly](t)(impl.IrreduciblesOf(p, n))
+			if int64(len(list)) != must[int64](t)(impl.CountIrreducibles(p, n)) {
+				t.Errorf("%d: there are %d of the degree %d", p, len(list), n)
+			}
+		}
+	}
+	// Beyond the lists each polynomial of the degree is asked.
+	for _, n := range []int64{9, 10, 11, 12} {
+		count := int64(0)
+		for m := monomial(int(n)); degreeOf(m) == int(n); m = nextMonic(2, m) {
+			if must[bool](t)(impl.IsIrreducible(2, m)) {
+				count++
+			}
+		}
+		if count != must[int64](t)(impl.CountIrreducibles(2, n)) {
+			t.Errorf("2: there are %d of the degree %d", count, n)
+		}
+	}
+}
+
+// The guarantee at the end of chapter 2, where it says more than the promises.
+func TestGuaranteeOfChapter2(t *testing.T) {
+	s := &sampler{state: 32}
+	ok := must[impl.Poly](t)
+	for _, p := range primes {
+		for range 200 {
+			m := s.monic(p, 1+int(s.below(impl.MaxModulus)))
+			_, a, _ := impl.DividePolys(p, s.upTo(p, 63), m)
+			inverse, code := impl.InverseModulo(p, a, m)
+			if ok(impl.GcdOf(p, a, m)) != (impl.Poly{1}) {
+				if code != impl.ErrNotFound {
+					t.Errorf("%d: %v has the inverse %v modulo %v", p, a, inverse, m)
+				}
+				continue
+			}
+			if code != impl.ErrNone || ok(impl.InverseModulo(p, inverse, m)) != a {
+				t.Errorf("%d: the inverse %v of %v modulo %v does not lead back", p, inverse, a, m)
+			}
+			_, rest, _ := impl.DividePolys(p, ok(impl.MultiplyPolys(p, inverse, a)), m)
+			if rest != (impl.Poly{1}) {
+				t.Errorf("%d: %v is no inverse of %v modulo %v", p, inverse, a, m)
+			}
+		}
+	}
+}

@@ -222,3 +222,76 @@ func TestGuaranteeOfChapter2(t *testing.T) {
 		}
 	}
 }
+
+// Promise 3: products of skew polynomials act one after the other, and quotients and rests from
+// both sides lead back.
+func TestPromise3(t *testing.T) {
+	s := &sampler{state: 33}
+	ok := must[impl.Skew](t)
+	for _, p := range primes {
+		for _, k := range towers(s, p) {
+			for range 60 {
+				n := int(s.below(impl.MaxSkew + 1))
+				checkActions(t, k, s.skew(k, n), s.skew(k, int(s.below(int64(impl.MaxSkew-n+1)))), s.residue(k))
+				f, g := s.skew(k, int(s.below(impl.MaxSkew+2))-1), s.skew(k, n)
+				q, r, code := impl.DivideRight(p, k.m, f, g)
+				back := ok(impl.AddSkews(p, k.m, ok(impl.MultiplySkews(p, k.m, q, g)), r))
+				if code != impl.ErrNone || back != f || must[int64](t)(impl.SkewDegree(p, k.m, r)) >= int64(n) {
+					t.Errorf("%d, %v: %v divided by %v from the right does not lead back", p, k.m, f, g)
+				}
+				q, r, code = impl.DivideLeft(p, k.m, f, g)
+				back = ok(impl.AddSkews(p, k.m, ok(impl.MultiplySkews(p, k.m, g, q)), r))
+				if code != impl.ErrNone || back != f || must[int64](t)(impl.SkewDegree(p, k.m, r)) >= int64(n) {
+					t.Errorf("%d, %v: %v divided by %v from the left does not lead back", p, k.m, f, g)
+				}
+			}
+		}
+	}
+}
+
+// checkActions also sees that values are additive.
+func checkActions(t *testing.T, k *tower, f, g impl.Skew, x impl.Poly) {
+	t.Helper()
+	ok := must[impl.Poly](t)
+	product := must[impl.Skew](t)(impl.MultiplySkews(k.p, k.m, f, g))
+	after := ok(impl.ValueOfSkew(k.p, k.m, f, ok(impl.ValueOfSkew(k.p, k.m, g, x))))
+	if ok(impl.ValueOfSkew(k.p, k.m, product, x)) != after {
+		t.Errorf("%d, %v: %v and %v do not act one after the other", k.p, k.m, f, g)
+	}
+	for _, y := range []impl.Poly{{1}, monomial(k.degree() - 1)} {
+		both := ok(impl.ValueOfSkew(k.p, k.m, f, ok(impl.AddPolys(k.p, x, y))))
+		apart := ok(impl.AddPolys(k.p, ok(impl.ValueOfSkew(k.p, k.m, f, x)), ok(impl.ValueOfSkew(k.p, k.m, f, y))))
+		if both != apart {
+			t.Errorf("%d, %v: the values of %v at %v and %v do not add up", k.p, k.m, f, x, y)
+		}
+	}
+}
+
+// The guarantee at the end of chapter 3, where it says more than the promise.
+func TestGuaranteeOfChapter3(t *testing.T) {
+	s := &sampler{state: 34}
+	ok, degree := must[impl.Skew](t), must[int64](t)
+	for _, p := range primes {
+		for _, k := range towers(s, p) {
+			for range 40 {
+				f, g, h := s.skew(k, int(s.below(3))), s.skew(k, int(s.below(3))), s.skew(k, int(s.below(4)))
+				left := ok(impl.MultiplySkews(p, k.m, ok(impl.MultiplySkews(p, k.m, f, g)), h))
+				right := ok(impl.MultiplySkews(p, k.m, f, ok(impl.MultiplySkews(p, k.m, g, h))))
+				if left != right {
+					t.Errorf("%d, %v: %v, %v and %v do not associate", p, k.m, f, g, h)
+				}
+				f, g = ok(impl.MultiplySkews(p, k.m, f, h)), ok(impl.MultiplySkews(p, k.m, g, h))
+				common := degree(impl.SkewDegree(p, k.m, ok(impl.RightDivisor(p, k.m, f, g))))
+				multiple := degree(impl.SkewDegree(p, k.m, ok(impl.LeftMultiple(p, k.m, f, g))))
+				if common+multiple != degree(impl.SkewDegree(p, k.m, f))+degree(impl.SkewDegree(p, k.m, g)) {
+					t.Errorf("%d, %v: the degrees of %v and %v do not add up", p, k.m, f, g)
+				}
+				list := []impl.Poly{s.residue(k), s.residue(k), s.residue(k)}[:s.below(4)]
+				least := degree(impl.SkewDegree(p, k.m, ok(impl.LeastSkew(p, k.m, list))))
+				if least != int64(k.dimension(len(k.span(list)))) {
+					t.Errorf("%d, %v: the least skew polynomial of %v has the degree %d", p, k.m, list, least)
+				}
+			}
+		}
+	}
+}

@@ -89,6 +89,16 @@ func scaled(p int64, a Poly, c byte) Poly {
 	return a
 }
 
+// stretched puts T^q in the place of T, which gives the power q of a if q is a power of p. It is
+// for a whose degree times q is known to fit.
+func stretched(a Poly, q int) Poly {
+	var power Poly
+	for i := range degree(a) + 1 {
+		power[i*q] = a[i]
+	}
+	return power
+}
+
 func wideProduct(p int64, a, b Poly) wide {
 	var w wide
 	high := degree(b)

@@ -42,7 +42,7 @@ func callsOfChapter1() []call {
 }
 
 func allCalls() []call {
-	return append(callsOfChapter1(), callsOfChapter2()...)
+	return slices.Concat(callsOfChapter1(), callsOfChapter2(), callsOfChapter4())
 }
 
 func TestWrongPrimesComeFirst(t *testing.T) {

@@ -1,6 +1,7 @@
 package tests
 
 import (
+	"slices"
 	"testing"
 
 	"loop.example/g01245/impl"
@@ -293,5 +294,173 @@ func TestGuaranteeOfChapter3(t *testing.T) {
 				}
 			}
 		}
+	}
+}
+
+// actionModuli returns moduli of all degrees: a sample, an irreducible one, and a power.
+func actionModuli(s *sampler, p int64) []impl.Poly {
+	var list []impl.Poly
+	for d := 1; d <= impl.MaxModulus; d++ {
+		list = append(list, s.monic(p, d), s.irreducible(p, d), plainPower(p, s.monic(p, 1), d))
+	}
+	return list
+}
+
+// Promise 4: exponents of irreducible moduli are these less 1, and annihilators divide the
+// exponent.
+func TestPromise4(t *testing.T) {
+	s := &sampler{state: 91}
+	ok := must[impl.Poly](t)
+	for _, p := range primes {
+		for _, m := range append(actionModuli(s, p), moduli(p, impl.MaxModulus, 50)...) {
+			exponent := ok(impl.ExponentOf(p, m))
+			less := ok(impl.SubtractPolys(p, m, impl.Poly{1}))
+			if must[bool](t)(impl.IsIrreducible(p, m)) && exponent != less {
+				t.Errorf("%d: the exponent of %v is %v", p, m, exponent)
+			}
+			for _, x := range someResidues(s, p, m, 50) {
+				annihilator := ok(impl.AnnihilatorOf(p, x, m))
+				if _, rest, _ := impl.DividePolys(p, exponent, annihilator); rest != (impl.Poly{}) {
+					t.Errorf("%d, %v: the annihilator of %v does not divide the exponent", p, m, x)
+				}
+				if ok(impl.ActOnResidue(p, annihilator, x, m)) != (impl.Poly{}) {
+					t.Errorf("%d, %v: the annihilator of %v does not lead it to 0", p, m, x)
+				}
+			}
+		}
+	}
+}
+
+// Promise 13, for Carlitz's module: actions of products are those of the factors one after the
+// other.
+func TestPromise13(t *testing.T) {
+	s := &sampler{state: 92}
+	greatest := map[int64]int64{2: impl.MaxAction, 3: 4, 5: 3, 7: 3}
+	for _, p := range primes {
+		for range 100 {
+			n := s.below(greatest[p] + 1)
+			a, b := s.upTo(p, int(n)), s.upTo(p, int(greatest[p]-n))
+			checkActionsCompose(t, p, a, b)
+			checkActionsCompose(t, p, b, a)
+			checkActionsAdd(t, p, s.upTo(p, int(greatest[p])), a)
+		}
+		for _, m := range actionModuli(s, p) {
+			for range 10 {
+				n := int(s.below(64))
+				checkActionsOnResidue(t, p, s.poly(p, n), s.upTo(p, 63-n), s.upTo(p, 63), m)
+			}
+		}
+	}
+}
+
+func checkActionsCompose(t *testing.T, p int64, a, b impl.Poly) {
+	t.Helper()
+	ok := must[[]impl.Poly](t)
+	product := must[impl.Poly](t)(impl.MultiplyPolys(p, a, b))
+	want := ok(impl.ActionOf(p, product))
+	got := ok(impl.ComposeActions(p, ok(impl.ActionOf(p, a)), ok(impl.ActionOf(p, b))))
+	if !slices.Equal(got, want) {
+		t.Errorf("%d: the actions of %v and %v compose to %v", p, a, b, got)
+	}
+}
+
+func checkActionsAdd(t *testing.T, p int64, a, b impl.Poly) {
+	t.Helper()
+	ok := must[[]impl.Poly](t)
+	opposite := must[impl.Poly](t)(impl.SubtractPolys(p, impl.Poly{}, a))
+	for _, x := range []impl.Poly{a, b, opposite} {
+		sum := must[impl.Poly](t)(impl.AddPolys(p, a, x))
+		want := ok(impl.ActionOf(p, sum))
+		got := ok(impl.AddActions(p, ok(impl.ActionOf(p, a)), ok(impl.ActionOf(p, x))))
+		if !slices.Equal(got, want) {
+			t.Errorf("%d: the actions of %v and %v add up to %v", p, a, x, got)
+		}
+	}
+}
+
+func checkActionsOnResidue(t *testing.T, p int64, a, b, x, m impl.Poly) {
+	t.Helper()
+	ok := must[impl.Poly](t)
+	after := ok(impl.ActOnResidue(p, a, ok(impl.ActOnResidue(p, b, x, m)), m))
+	if ok(impl.ActOnResidue(p, ok(impl.MultiplyPolys(p, a, b)), x, m)) != after {
+		t.Errorf("%d, %v: %v and %v do not act on %v one after the other", p, m, a, b, x)
+	}
+	apart := ok(impl.AddPolys(p, ok(impl.ActOnResidue(p, a, x, m)), ok(impl.ActOnResidue(p, b, x, m))))
+	if ok(impl.ActOnResidue(p, ok(impl.AddPolys(p, a, b)), x, m)) != apart {
+		t.Errorf("%d, %v: the actions of %v and %v on %v do not add up", p, m, a, b, x)
+	}
+}
+
+// The guarantee at the end of chapter 4, where it says more than the promises.
+func TestGuaranteeOfChapter4(t *testing.T) {
+	s := &sampler{state: 93}
+	for _, p := range primes {
+		for _, m := range append(actionModuli(s, p), moduli(p, impl.MaxModulus, 50)...) {
+			exponent := must[impl.Poly](t)(impl.ExponentOf(p, m))
+			torsion := must[int64](t)(impl.TorsionNumber(p, exponent, m))
+			if torsion != must[int64](t)(impl.DegreeOf(p, m)) {
+				t.Errorf("%d: the torsion number of the exponent of %v is %d", p, m, torsion)
+			}
+		}
+	}
+}
+
+// The main guarantee, where it speaks of chapters 3 and 4: actions are products of skew
+// polynomials, and residues modulo an irreducible polynomial are a module with one generator.
+func TestMainGuaranteeOfActions(t *testing.T) {
+	s := &sampler{state: 94}
+	for _, p := range primes {
+		for d := 1; d <= 4; d++ {
+			m := s.irreducible(p, d)
+			for range 20 {
+				checkActionsAreSkews(t, p, m, s.upTo(p, 2), s.upTo(p, 1), s.upTo(p, d-1))
+			}
+			checkGeneratorReachesAll(t, p, m)
+		}
+		checkGeneratorReachesAll(t, p, s.irreducible(p, impl.MaxModulus))
+		for _, m := range moduli(p, impl.MaxModulus, 50) {
+			if must[bool](t)(impl.IsIrreducible(p, m)) {
+				checkGeneratorReachesAll(t, p, m)
+			}
+		}
+	}
+}
+
+// skewOfAction takes the rests of a list.
+func skewOfAction(t *testing.T, p int64, list []impl.Poly, m impl.Poly) impl.Skew {
+	t.Helper()
+	var f impl.Skew
+	for i, c := range list {
+		_, f[i], _ = impl.DividePolys(p, c, m)
+	}
+	return f
+}
+
+func checkActionsAreSkews(t *testing.T, p int64, m, a, b, x impl.Poly) {
+	t.Helper()
+	action, ok := must[[]impl.Poly](t), must[impl.Poly](t)
+	f := skewOfAction(t, p, action(impl.ActionOf(p, a)), m)
+	g := skewOfAction(t, p, action(impl.ActionOf(p, b)), m)
+	both := action(impl.ActionOf(p, ok(impl.MultiplyPolys(p, a, b))))
+	if must[impl.Skew](t)(impl.MultiplySkews(p, m, f, g)) != skewOfAction(t, p, both, m) {
+		t.Errorf("%d, %v: the action of the product of %v and %v is no product", p, m, a, b)
+	}
+	if ok(impl.ValueOfSkew(p, m, f, x)) != ok(impl.ActOnResidue(p, a, x, m)) {
+		t.Errorf("%d, %v: the action of %v on %v is no value", p, m, a, x)
+	}
+}
+
+// checkGeneratorReachesAll relies on this: what has as many images as there are residues reaches
+// them all.
+func checkGeneratorReachesAll(t *testing.T, p int64, m impl.Poly) {
+	t.Helper()
+	ok := must[impl.Poly](t)
+	generator := ok(impl.CarlitzGenerator(p, m))
+	reached, all := map[impl.Poly]bool{}, residues(p, m)
+	for _, a := range all {
+		reached[ok(impl.ActOnResidue(p, a, generator, m))] = true
+	}
+	if len(reached) != len(all) {
+		t.Errorf("%d: the generator %v reaches %d residues modulo %v", p, generator, len(reached), m)
 	}
 }

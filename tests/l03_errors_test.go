@@ -39,6 +39,10 @@ func callsOfChapter3() []skewCall {
 	}
 }
 
+func allSkewCalls() []skewCall {
+	return slices.Concat(callsOfChapter3(), skewCallsOfChapter5())
+}
+
 // noFields returns what is not monic, reducible, a number, of the degree 5 or more, or no
 // polynomial.
 func noFields(p int64) []impl.Poly {
@@ -79,7 +83,7 @@ func noResidues(k *tower) []impl.Poly {
 
 // The skew polynomials are 0, or products of them would be too great: all that comes later.
 func TestWrongFieldsComeFirst(t *testing.T) {
-	for _, c := range callsOfChapter3() {
+	for _, c := range allSkewCalls() {
 		for _, f := range []impl.Skew{{}, one(), tau(impl.Poly{1}, impl.MaxSkew)} {
 			skews, polys := slices.Repeat([]impl.Skew{f}, c.skews), make([]impl.Poly, c.residues)
 			for _, p := range primes {
@@ -100,7 +104,7 @@ func TestWrongSkewsComeFirst(t *testing.T) {
 	s := &sampler{state: 55}
 	for _, p := range primes {
 		for _, k := range towers(s, p) {
-			for _, c := range callsOfChapter3() {
+			for _, c := range allSkewCalls() {
 				for place := range c.skews {
 					checkWrongSkew(t, k, c, place)
 				}
@@ -127,7 +131,7 @@ func TestWrongResiduesComeFirst(t *testing.T) {
 	s := &sampler{state: 56}
 	for _, p := range primes {
 		for _, k := range towers(s, p) {
-			for _, c := range callsOfChapter3() {
+			for _, c := range allSkewCalls() {
 				for place := range c.residues {
 					for _, x := range noResidues(k) {
 						list := make([]impl.Poly, c.residues)

@@ -464,3 +464,118 @@ func checkGeneratorReachesAll(t *testing.T, p int64, m impl.Poly) {
 		t.Errorf("%d: the generator %v reaches %d residues modulo %v", p, generator, len(reached), m)
 	}
 }
+
+// Promise 5: the characteristic polynomial leads all vectors to 0, and companions have their
+// polynomial as the only invariant factor.
+func TestPromise5(t *testing.T) {
+	s := &sampler{state: 130}
+	ok := must[impl.Poly](t)
+	for _, p := range primes {
+		for n := 1; n <= impl.MaxRows; n++ {
+			for _, k := range mixedSquares(t, s, p, n) {
+				a := ok(impl.CharacteristicOf(p, k.size(), k.s))
+				vectors := append(k.basis(), s.row(p, n), s.row(p, n))
+				if isSmall(p, n) {
+					vectors = k.vectors()
+				}
+				for _, v := range vectors {
+					if must[impl.Row](t)(impl.ApplySquare(p, k.size(), k.s, a, v)) != (impl.Row{}) {
+						t.Errorf("%d, %v: %v does not lead %v to 0", p, k.s, a, v)
+					}
+				}
+			}
+			for _, a := range []impl.Poly{monomial(n), s.monic(p, n), s.monic(p, n), s.irreducible(p, n)} {
+				companion := must[impl.Square](t)(impl.CompanionOf(p, a))
+				list := must[[]impl.Poly](t)(impl.InvariantFactors(p, int64(n), companion))
+				if !slices.Equal(list, []impl.Poly{a}) || ok(impl.CharacteristicOf(p, int64(n), companion)) != a {
+					t.Errorf("%d: the companion of %v has the invariant factors %v", p, a, list)
+				}
+			}
+		}
+	}
+}
+
+// Promise 16: matrices of skew polynomials act as these do.
+func TestPromise16(t *testing.T) {
+	s := &sampler{state: 131}
+	for _, p := range primes {
+		for _, k := range towers(s, p) {
+			for range 40 {
+				f := s.skew(k, int(s.below(impl.MaxSkew+2))-1)
+				checkSquareActs(t, k, f, s.residue(k))
+				n := int(s.below(impl.MaxSkew + 1))
+				g, h := s.skew(k, n), s.skew(k, impl.MaxSkew-n)
+				checkSquareActs(t, k, must[impl.Skew](t)(impl.MultiplySkews(p, k.m, g, h)), s.residue(k))
+				checkSquareActs(t, k, g, must[impl.Poly](t)(impl.ValueOfSkew(p, k.m, h, s.residue(k))))
+			}
+			for _, f := range []impl.Skew{{}, one(), tau(impl.Poly{1}, 1), k.unitSkew()} {
+				checkSquareActs(t, k, f, s.residue(k))
+			}
+		}
+	}
+}
+
+func checkSquareActs(t *testing.T, k *tower, f impl.Skew, x impl.Poly) {
+	t.Helper()
+	size := must[int64](t)(impl.DegreeOf(k.p, k.m))
+	square := must[impl.Square](t)(impl.SquareOfSkew(k.p, k.m, f))
+	if !impl.IsSquare(k.p, size, square) {
+		t.Errorf("%d, %v: %v is no matrix", k.p, k.m, square)
+	}
+	image := must[impl.Row](t)(impl.ApplySquare(k.p, size, square, monomial(1), impl.Row(x[:6])))
+	value := must[impl.Poly](t)(impl.ValueOfSkew(k.p, k.m, f, x))
+	if image != impl.Row(value[:6]) {
+		t.Errorf("%d, %v: the matrix of %v leads %v to %v", k.p, k.m, f, x, image)
+	}
+}
+
+// The guarantee at the end of chapter 5, where it says more than the promises.
+func TestGuaranteeOfChapter5(t *testing.T) {
+	s := &sampler{state: 132}
+	ok := must[impl.Poly](t)
+	for _, p := range primes {
+		for n := 1; n <= impl.MaxRows; n++ {
+			for _, k := range mixedSquares(t, s, p, n) {
+				least := ok(impl.LeastOf(p, k.size(), k.s))
+				for _, v := range append(k.basis(), s.row(p, n), impl.Row{}) {
+					order := ok(impl.OrderOfVector(p, k.size(), k.s, v))
+					if _, rest, _ := impl.DividePolys(p, least, order); rest != (impl.Poly{}) {
+						t.Errorf("%d, %v: the order %v of %v does not divide %v", p, k.s, order, v, least)
+					}
+				}
+				all := impl.Poly{1}
+				list := must[[]impl.Poly](t)(impl.InvariantFactors(p, k.size(), k.s))
+				for _, d := range list {
+					all = ok(impl.MultiplyPolys(p, all, d))
+				}
+				if all != ok(impl.CharacteristicOf(p, k.size(), k.s)) || list[len(list)-1] != least {
+					t.Errorf("%d, %v: the invariant factors are %v", p, k.s, list)
+				}
+			}
+		}
+	}
+}
+
+// The main guarantee, where it speaks of chapter 5: residues modulo an irreducible polynomial are a
+// module with one generator, now by the matrix of the skew polynomial T + tau.
+func TestMainGuaranteeOfMatrices(t *testing.T) {
+	s := &sampler{state: 133}
+	ok := must[impl.Poly](t)
+	for _, p := range primes {
+		for d := 1; d <= 4; d++ {
+			m, size := s.irreducible(p, d), int64(d)
+			_, x, _ := impl.DividePolys(p, monomial(1), m)
+			square := must[impl.Square](t)(impl.SquareOfSkew(p, m, impl.Skew{x, {1}}))
+			list := must[[]impl.Poly](t)(impl.InvariantFactors(p, size, square))
+			if !slices.Equal(list, []impl.Poly{ok(impl.ExponentOf(p, m))}) {
+				t.Errorf("%d: the module of %v has the invariant factors %v", p, m, list)
+			}
+			generator := must[impl.Row](t)(impl.ModuleGenerator(p, size, square))
+			var y impl.Poly
+			copy(y[:], generator[:])
+			if ok(impl.AnnihilatorOf(p, y, m)) != list[len(list)-1] {
+				t.Errorf("%d: %v is no generator of the module of %v", p, y, m)
+			}
+		}
+	}
+}

@@ -333,7 +333,7 @@ func TestPromise4(t *testing.T) {
 
 // Promise 13, for Carlitz's module: actions of products are those of the factors one after the
 // other.
-func TestPromise13(t *testing.T) {
+func TestPromise13ForCarlitz(t *testing.T) {
 	s := &sampler{state: 92}
 	greatest := map[int64]int64{2: impl.MaxAction, 3: 4, 5: 3, 7: 3}
 	for _, p := range primes {
@@ -575,6 +575,138 @@ func TestMainGuaranteeOfMatrices(t *testing.T) {
 			copy(y[:], generator[:])
 			if ok(impl.AnnihilatorOf(p, y, m)) != list[len(list)-1] {
 				t.Errorf("%d: %v is no generator of the module of %v", p, y, m)
+			}
+		}
+	}
+}
+
+// Promise 6: Frobenius polynomials lead the power of tau to 0, and twists keep them.
+func TestPromise6(t *testing.T) {
+	s := &sampler{state: 180}
+	for _, p := range primes {
+		for _, k := range towers(s, p) {
+			for _, n := range s.someRankTwo(k, 10) {
+				checkFrobeniusLeadsToZero(t, k, n.told(), s.residue(k))
+				checkTwistsKeep(t, n.told(), s.unit(k))
+			}
+		}
+		for _, k := range fewResidues(p) {
+			for _, n := range allRankTwo(k) {
+				checkFrobeniusLeadsToZero(t, k, n.told(), s.residue(k))
+			}
+			n := s.rankTwo(k).told()
+			for _, c := range k.all[1:] {
+				checkTwistsKeep(t, n, c)
+			}
+		}
+	}
+}
+
+// checkFrobeniusLeadsToZero sees F F, less the action of a times F, and that of b, as a sum of powers
+// of tau, and at a residue, which F leaves as it is.
+func checkFrobeniusLeadsToZero(t *testing.T, k *tower, n impl.Drinfeld, x impl.Poly) {
+	t.Helper()
+	a, b, code := impl.FrobeniusOf(n)
+	if code != impl.ErrNone || degreeOf(a) > k.degree()/2 || degreeOf(b) != k.degree() {
+		t.Errorf("FrobeniusOf(%v) = %v, %v, %d", n, a, b, code)
+	}
+	if !(rankTwo{k, n.G, n.D}).isFrobenius(drinfeldAction(t, n, a), drinfeldAction(t, n, b)) {
+		t.Errorf("%v: %v and %v do not lead the power of tau to 0", n, a, b)
+	}
+	ok := must[impl.Poly](t)
+	value := ok(impl.SubtractPolys(n.Prime, x, ok(impl.DrinfeldValue(n, a, x))))
+	value = ok(impl.AddPolys(n.Prime, value, ok(impl.DrinfeldValue(n, b, x))))
+	if value != (impl.Poly{}) {
+		t.Errorf("%v: %v and %v lead %v to %v", n, a, b, x, value)
+	}
+}
+
+func drinfeldAction(t *testing.T, n impl.Drinfeld, a impl.Poly) []impl.Poly {
+	t.Helper()
+	return must[[]impl.Poly](t)(impl.DrinfeldAction(n, a))
+}
+
+// checkTwistsKeep sees that a twist has the same Frobenius polynomial and invariant, and that it is
+// isomorphic.
+func checkTwistsKeep(t *testing.T, n impl.Drinfeld, c impl.Poly) {
+	t.Helper()
+	twist := must[impl.Drinfeld](t)(impl.TwistOf(n, c))
+	a, b, _ := impl.FrobeniusOf(n)
+	expect(t, "FrobeniusOf", results(impl.FrobeniusOf(twist)), a, b)
+	expect(t, "InvariantOf", results(impl.InvariantOf(twist)), must[impl.Poly](t)(impl.InvariantOf(n)))
+	expect(t, "AreIsomorphic", results(impl.AreIsomorphic(n, twist)), true)
+	if !impl.IsDrinfeld(twist) {
+		t.Errorf("%v, the twist of %v, is no module", twist, n)
+	}
+}
+
+// Promise 13, for Drinfeld modules: actions of products are those of the factors one after the
+// other.
+func TestPromise13ForDrinfeld(t *testing.T) {
+	s := &sampler{state: 181}
+	for _, p := range primes {
+		for _, k := range towers(s, p) {
+			for _, n := range s.someRankTwo(k, 4) {
+				for range 5 {
+					i, j := int(s.below(6)), int(s.below(64))
+					checkDrinfeldActions(t, n, s.upTo(p, i), s.upTo(p, 5-i))
+					checkDrinfeldValues(t, n.told(), s.upTo(p, j), s.upTo(p, 63-j), s.upTo(p, 63))
+				}
+			}
+		}
+	}
+}
+
+// checkDrinfeldActions multiplies by chapter 3 where the product fits there.
+func checkDrinfeldActions(t *testing.T, n rankTwo, a, b impl.Poly) {
+	t.Helper()
+	first, second := drinfeldAction(t, n.told(), a), drinfeldAction(t, n.told(), b)
+	want := drinfeldAction(t, n.told(), must[impl.Poly](t)(impl.MultiplyPolys(n.p, a, b)))
+	if got := n.multiplied(first, second); !slices.Equal(got, want) {
+		t.Errorf("%v: the actions of %v and %v make %v", n.told(), a, b, got)
+	}
+	if len(want) > 0 && len(want) <= impl.MaxSkew+1 {
+		var f, g, h impl.Skew
+		copy(f[:], first)
+		copy(g[:], second)
+		copy(h[:], want)
+		expect(t, "MultiplySkews", results(impl.MultiplySkews(n.p, n.m, f, g)), h)
+	}
+}
+
+func checkDrinfeldValues(t *testing.T, n impl.Drinfeld, a, b, x impl.Poly) {
+	t.Helper()
+	ok := must[impl.Poly](t)
+	after := ok(impl.DrinfeldValue(n, a, ok(impl.DrinfeldValue(n, b, x))))
+	if ok(impl.DrinfeldValue(n, ok(impl.MultiplyPolys(n.Prime, a, b)), x)) != after {
+		t.Errorf("%v: %v and %v do not act on %v one after the other", n, a, b, x)
+	}
+	apart := ok(impl.AddPolys(n.Prime, ok(impl.DrinfeldValue(n, a, x)), ok(impl.DrinfeldValue(n, b, x))))
+	if ok(impl.DrinfeldValue(n, ok(impl.AddPolys(n.Prime, a, b)), x)) != apart {
+		t.Errorf("%v: the actions of %v and %v on %v do not add up", n, a, b, x)
+	}
+}
+
+// The guarantee at the end of chapter 6, where it says more than the promises: F is an isogeny to
+// the module itself, and the action of the order takes all residues to 0.
+func TestGuaranteeOfChapter6(t *testing.T) {
+	s := &sampler{state: 182}
+	for _, p := range primes {
+		for _, k := range append(towers(s, p), fewResidues(p)...) {
+			power := make([]impl.Poly, must[int64](t)(impl.DegreeOf(p, k.m))+1)
+			power[len(power)-1] = impl.Poly{1}
+			list := k.all
+			if len(list) > 125 {
+				list = []impl.Poly{{1}, monomial(1), monomial(k.degree() - 1), s.residue(k), s.residue(k)}
+			}
+			for _, n := range s.someRankTwo(k, 4) {
+				expect(t, "IsIsogeny", results(impl.IsIsogeny(n.told(), n.told(), power)), true)
+				order := must[impl.Poly](t)(impl.OrderPolynomial(n.told()))
+				for _, x := range list {
+					expect(t, "DrinfeldValue", results(impl.DrinfeldValue(n.told(), order, x)), impl.Poly{})
+				}
+				twist := n.twistedBy(s.unit(k)).told()
+				expect(t, "OrderPolynomial", results(impl.OrderPolynomial(twist)), order)
 			}
 		}
 	}

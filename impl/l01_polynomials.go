@@ -89,6 +89,19 @@ func scaled(p int64, a Poly, c byte) Poly {
 	return a
 }
 
+// madeMonic is for a other than 0.
+func madeMonic(p int64, a Poly) Poly {
+	return scaled(p, a, inverseNumber(p, a[degree(a)]))
+}
+
+func derivative(p int64, a Poly) Poly {
+	var slope Poly
+	for i := 1; i <= MaxDegree; i++ {
+		slope[i-1] = byte(int64(i)%p) * a[i] % byte(p)
+	}
+	return slope
+}
+
 // stretched puts T^q in the place of T, which gives the power q of a if q is a power of p. It is
 // for a whose degree times q is known to fit.
 func stretched(a Poly, q int) Poly {
@@ -173,11 +186,12 @@ func bezout(p int64, a, b Poly) (Poly, Poly, Poly) {
 	return scaled(p, last.rest, c), scaled(p, last.u, c), scaled(p, last.v, c)
 }
 
-// power multiplies by times. Repeated squares run into a cycle where there are few different
-// ones, so that each is found once and then remembered for this power.
-func power(a Poly, k int64, times func(Poly, Poly) Poly) Poly {
-	squares := map[Poly]Poly{}
-	result := Poly{1}
+// power multiplies by times, for which one changes nothing. Repeated squares run into a cycle
+// where there are few different ones, so that each is found once and then remembered for this
+// power.
+func power[E comparable](one, a E, k int64, times func(E, E) E) E {
+	squares := map[E]E{}
+	result := one
 	for k > 0 {
 		if k%2 == 1 {
 			result = times(result, a)
@@ -199,7 +213,7 @@ func power(a Poly, k int64, times func(Poly, Poly) Poly) Poly {
 func powerModulo(p int64, a Poly, k int64, m Poly) Poly {
 	times := func(x, y Poly) Poly { return restOfProduct(p, x, y, m) }
 	// The power 0 is 1, which is no rest yet if m is a number.
-	return restOf(p, power(a, k, times), m)
+	return restOf(p, power(Poly{1}, a, k, times), m)
 }
 
 func valueAt(p int64, a Poly, x int64) int64 {
@@ -333,11 +347,7 @@ func DerivativeOf(p int64, a Poly) (Poly, int64) {
 	if code := checkPolys(p, a); code != ErrNone {
 		return Poly{}, code
 	}
-	var derivative Poly
-	for i := 1; i <= MaxDegree; i++ {
-		derivative[i-1] = byte(int64(i)%p) * a[i] % byte(p)
-	}
-	return derivative, ErrNone
+	return derivative(p, a), ErrNone
 }
 
 // PowerOf returns a to the power k, in 0..MaxNumber, and ErrNone; the power 0 is 1.
@@ -352,7 +362,7 @@ func PowerOf(p int64, a Poly, k int64) (Poly, int64) {
 		return Poly{}, ErrLimit
 	}
 	times := func(x, y Poly) Poly { return product(p, x, y) }
-	return power(a, k, times), ErrNone
+	return power(Poly{1}, a, k, times), ErrNone
 }
 
 // PowerModulo returns the rest of a to the power k, in 0..MaxNumber, divided by m, and ErrNone.

@@ -711,3 +711,125 @@ func TestGuaranteeOfChapter6(t *testing.T) {
 		}
 	}
 }
+
+// Promise 7: compositions are associative and commutative, and orders of forms divide the class
+// number.
+func TestPromise7(t *testing.T) {
+	s := &sampler{state: 260}
+	for _, p := range oddPrimes {
+		for _, k := range curves(t, s, p) {
+			list := must[[]impl.Form](t)(impl.ReducedForms(p, k.d))
+			class := must[int64](t)(impl.ClassNumber(p, k.d))
+			for range 30 {
+				checkFormsCompose(t, k, s.formOf(list), s.formOf(list), s.formOf(list))
+			}
+			for _, order := range must[[]int64](t)(impl.GroupOrders(p, k.d)) {
+				if order < 1 || class%order != 0 {
+					t.Errorf("%d, %v: the order %d does not divide %d", p, k.d, order, class)
+				}
+			}
+			f := s.formOf(list)
+			if order := must[int64](t)(impl.OrderOfForm(p, k.d, f)); class%order != 0 {
+				t.Errorf("%d, %v: the order %d of %v does not divide %d", p, k.d, order, f, class)
+			}
+			if len(list) <= 8 {
+				checkGroup(t, k, list)
+			}
+		}
+	}
+}
+
+// checkGroup tries all compositions of the forms of a list.
+func checkGroup(t *testing.T, k curve, list []impl.Form) {
+	t.Helper()
+	for _, f := range list {
+		for _, g := range list {
+			for _, h := range list {
+				checkFormsCompose(t, k, f, g, h)
+			}
+		}
+	}
+}
+
+func checkFormsCompose(t *testing.T, k curve, f, g, h impl.Form) {
+	t.Helper()
+	ok := must[impl.Form](t)
+	fg, gh := ok(impl.ComposeForms(k.p, k.d, f, g)), ok(impl.ComposeForms(k.p, k.d, g, h))
+	if ok(impl.ComposeForms(k.p, k.d, g, f)) != fg {
+		t.Errorf("%d, %v: %v and %v do not commute", k.p, k.d, f, g)
+	}
+	if ok(impl.ComposeForms(k.p, k.d, fg, h)) != ok(impl.ComposeForms(k.p, k.d, f, gh)) {
+		t.Errorf("%d, %v: %v, %v and %v do not associate", k.p, k.d, f, g, h)
+	}
+	if degreeOf(fg.A) > k.genus() || !impl.IsForm(k.p, k.d, fg) {
+		t.Errorf("%d, %v: %v and %v make %v", k.p, k.d, f, g, fg)
+	}
+}
+
+// Promise 17: the sum of the coefficients of the L polynomial of a curve is its class number.
+func TestPromise17(t *testing.T) {
+	s := &sampler{state: 261}
+	for _, p := range oddPrimes {
+		list := curves(t, s, p)
+		for range 60 {
+			n := []int{1, 3, 5}[s.below(3)]
+			list = append(list, s.discriminant(t, p, n, byte(1+s.below(p-1))))
+		}
+		for _, k := range list {
+			class := must[int64](t)(impl.ClassNumber(p, k.d))
+			polynomial := must[[]int64](t)(impl.CurvePolynomial(p, k.d))
+			if sumOf(polynomial) != class || len(polynomial) != 2*k.genus()+1 || polynomial[0] != 1 {
+				t.Errorf("%d, %v: the L polynomial is %v, and the class number %d", p, k.d, polynomial, class)
+			}
+		}
+	}
+}
+
+// The guarantee at the end of chapter 7, where it says more than the promises: inverses undo forms.
+func TestGuaranteeOfChapter7(t *testing.T) {
+	s := &sampler{state: 262}
+	for _, p := range oddPrimes {
+		for _, k := range curves(t, s, p) {
+			list := must[[]impl.Form](t)(impl.ReducedForms(p, k.d))
+			for _, f := range list {
+				checkInverseUndoes(t, k, f, s.formOf(list), int64(len(list)))
+			}
+			for _, f := range s.someForms(t, k, impl.MaxForm) {
+				checkReducedInverse(t, k, f)
+			}
+		}
+	}
+}
+
+func checkInverseUndoes(t *testing.T, k curve, f, g impl.Form, class int64) {
+	t.Helper()
+	ok := must[impl.Form](t)
+	inverse := ok(impl.InverseForm(k.p, k.d, f))
+	expect(t, "ComposeForms", results(impl.ComposeForms(k.p, k.d, f, inverse)), unitForm())
+	both := ok(impl.ComposeForms(k.p, k.d, g, f))
+	expect(t, "ComposeForms", results(impl.ComposeForms(k.p, k.d, both, inverse)), g)
+	expect(t, "PowerOfForm", results(impl.PowerOfForm(k.p, k.d, f, -1)), inverse)
+	expect(t, "PowerOfForm", results(impl.PowerOfForm(k.p, k.d, f, class)), unitForm())
+}
+
+// checkReducedInverse sees that a form that need not be reduced, and its inverse, do so as well.
+func checkReducedInverse(t *testing.T, k curve, f impl.Form) {
+	t.Helper()
+	ok := must[impl.Form](t)
+	reduced := ok(impl.ReduceForm(k.p, k.d, f))
+	inverse := ok(impl.ReduceForm(k.p, k.d, ok(impl.InverseForm(k.p, k.d, f))))
+	expect(t, "ComposeForms", results(impl.ComposeForms(k.p, k.d, reduced, inverse)), unitForm())
+	expect(t, "InverseForm", results(impl.InverseForm(k.p, k.d, reduced)), inverse)
+}
+
+// The main guarantee, where it speaks of chapter 7: class numbers are told by counts of points.
+func TestMainGuaranteeOfClassNumbers(t *testing.T) {
+	s := &sampler{state: 263}
+	for _, p := range oddPrimes {
+		for _, k := range curves(t, s, p) {
+			points := must[[]int64](t)(impl.CountPoints(p, k.d))
+			want := []int64{1, points[0], (points[0]*points[0]+points[1])/2 - p}[k.genus()]
+			expect(t, "ClassNumber", results(impl.ClassNumber(p, k.d)), want)
+		}
+	}
+}

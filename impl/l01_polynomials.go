@@ -210,6 +210,12 @@ func power[E comparable](one, a E, k int64, times func(E, E) E) E {
 	return result
 }
 
+// powerOf is for powers whose degrees are known to fit.
+func powerOf(p int64, a Poly, k int64) Poly {
+	times := func(x, y Poly) Poly { return product(p, x, y) }
+	return power(Poly{1}, a, k, times)
+}
+
 func powerModulo(p int64, a Poly, k int64, m Poly) Poly {
 	times := func(x, y Poly) Poly { return restOfProduct(p, x, y, m) }
 	// The power 0 is 1, which is no rest yet if m is a number.
@@ -361,8 +367,7 @@ func PowerOf(p int64, a Poly, k int64) (Poly, int64) {
 	if int64(degree(a))*k > MaxDegree {
 		return Poly{}, ErrLimit
 	}
-	times := func(x, y Poly) Poly { return product(p, x, y) }
-	return power(Poly{1}, a, k, times), ErrNone
+	return powerOf(p, a, k), ErrNone
 }
 
 // PowerModulo returns the rest of a to the power k, in 0..MaxNumber, divided by m, and ErrNone.

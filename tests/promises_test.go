@@ -833,3 +833,80 @@ func TestMainGuaranteeOfClassNumbers(t *testing.T) {
 		}
 	}
 }
+
+// Promise 8: zeta at negative multiples of p - 1 is 0, and polynomials of symbols begin with 1.
+func TestPromise8(t *testing.T) {
+	s := &sampler{state: 330}
+	for _, p := range primes {
+		found := 0
+		for k := p - 1; k <= impl.MaxExponent; k += p - 1 {
+			zeta, code := impl.ZetaAt(p, k)
+			if zeta != (impl.Poly{}) || code != impl.ErrNone && code != impl.ErrLimit {
+				t.Errorf("ZetaAt(%d, %d) = %v, %d", p, k, zeta, code)
+			}
+			if code == impl.ErrNone {
+				found++
+			}
+		}
+		if found < 6 {
+			t.Errorf("%d: zeta is found %d times", p, found)
+		}
+	}
+	for _, p := range oddPrimes {
+		for _, m := range symbolModuli(t, s, p) {
+			list, code := impl.SymbolPolynomial(p, m)
+			if isTooGreat(p, m) {
+				continue
+			}
+			if code != impl.ErrNone || len(list) != degreeOf(m) || list[0] != 1 {
+				t.Errorf("SymbolPolynomial(%d, %v) = %v, %d", p, m, list, code)
+			}
+		}
+	}
+}
+
+// The guarantee at the end of chapter 8, where it says more than the promise.
+func TestGuaranteeOfChapter8(t *testing.T) {
+	s := &sampler{state: 331}
+	ok := must[impl.Poly](t)
+	for _, p := range primes {
+		for d := int64(0); d <= mostSummed[p]; d++ {
+			for k := int64(0); p*k <= impl.MaxExponent && d*p*k <= impl.MaxDegree; k++ {
+				want := ok(impl.PowerOf(p, ok(impl.PowerSum(p, d, k)), p))
+				expect(t, "PowerSum", results(impl.PowerSum(p, d, p*k)), want)
+			}
+		}
+		for _, m := range symbolModuli(t, s, p) {
+			// A symbol is a product of values at as many roots of m as its degree tells.
+			least := int64(degreeOf(m))/(p-1) + 1
+			for d := least; d <= mostSummed[p]; d++ {
+				expect(t, "SymbolSum", results(impl.SymbolSum(p, m, d)), int64(0))
+			}
+		}
+	}
+}
+
+// The main guarantee, where it speaks of chapters 7 and 8: class numbers are told by counts of points,
+// and now also by symbols.
+func TestMainGuaranteeOfClassSums(t *testing.T) {
+	s := &sampler{state: 332}
+	for _, p := range oddPrimes {
+		for _, n := range []int{1, 3, 5} {
+			for range 10 {
+				m := s.discriminant(t, p, n, 1).d
+				if isTooGreat(p, m) {
+					continue
+				}
+				d := m
+				if p%4 == 3 {
+					d = must[impl.Poly](t)(impl.SubtractPolys(p, impl.Poly{}, m))
+				}
+				class := must[int64](t)(impl.ClassNumber(p, d))
+				expect(t, "ClassSum", results(impl.ClassSum(p, m)), class)
+				if sum := sumOf(must[[]int64](t)(impl.CurvePolynomial(p, d))); sum != class {
+					t.Errorf("%d, %v: the points make %d, and the symbols %d", p, m, sum, class)
+				}
+			}
+		}
+	}
+}

@@ -40,7 +40,7 @@ func callsOfChapter3() []skewCall {
 }
 
 func allSkewCalls() []skewCall {
-	return slices.Concat(callsOfChapter3(), skewCallsOfChapter5())
+	return slices.Concat(callsOfChapter3(), skewCallsOfChapter5(), callsOfChapter9())
 }
 
 // noFields returns what is not monic, reducible, a number, of the degree 5 or more, or no

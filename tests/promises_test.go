@@ -910,3 +910,65 @@ func TestMainGuaranteeOfClassSums(t *testing.T) {
 		}
 	}
 }
+
+// Promise 9: Moore determinants are not 0 exactly for independent residues, and words that are
+// encoded are decoded.
+func TestPromise9(t *testing.T) {
+	s := &sampler{state: 430}
+	for _, p := range primes {
+		for _, k := range towers(s, p) {
+			for _, list := range listSamples(s, k, impl.MaxPlaces) {
+				d := must[impl.Poly](t)(impl.MooreDeterminant(p, k.m, list))
+				span := must[[]impl.Poly](t)(impl.SpanOf(p, k.m, list))
+				if (d != impl.Poly{}) != (len(span) == len(list)) {
+					t.Errorf("%d, %v: %v has the determinant %v and the span %v", p, k.m, list, d, span)
+				}
+			}
+			for _, c := range s.rankCodes(k) {
+				for _, message := range s.messages(c) {
+					word := must[[]impl.Poly](t)(impl.EncodeRank(p, k.m, c.places, message))
+					expect(t, "DecodeRank", results(impl.DecodeRank(p, k.m, c.places, c.coefficients(), word)), message)
+					expect(t, "IsCodeWord", results(impl.IsCodeWord(p, k.m, c.places, c.coefficients(), word)), true)
+				}
+			}
+		}
+	}
+}
+
+// The guarantee at the end of chapter 9, where it says more than the promise.
+func TestGuaranteeOfChapter9(t *testing.T) {
+	s := &sampler{state: 431}
+	for _, p := range primes {
+		for _, k := range towers(s, p) {
+			for _, c := range s.rankCodes(k) {
+				n := len(c.places)
+				for rank := range c.most() + 1 {
+					message := s.list(k, c.size)
+					sent := must[[]impl.Poly](t)(impl.EncodeRank(p, k.m, c.places, message))
+					word := c.spoilt(sent, s.ofRank(k, n, rank))
+					expect(t, "RankDistance", results(impl.RankDistance(p, k.m, sent, word)), int64(rank))
+					expect(t, "DecodeRank", results(impl.DecodeRank(p, k.m, c.places, c.coefficients(), word)), message)
+				}
+				values := s.list(k, n)
+				f := must[impl.Skew](t)(impl.InterpolateSkew(p, k.m, c.places, values))
+				for i, x := range c.places {
+					expect(t, "ValueOfSkew", results(impl.ValueOfSkew(p, k.m, f, x)), values[i])
+				}
+			}
+		}
+	}
+}
+
+// Promise 15: the kernel of a least skew polynomial is the span of its residues.
+func TestPromise15(t *testing.T) {
+	s := &sampler{state: 432}
+	for _, p := range primes {
+		for _, k := range towers(s, p) {
+			for _, list := range append(listSamples(s, k, 9), k.all) {
+				f := must[impl.Skew](t)(impl.LeastSkew(p, k.m, list))
+				span := must[[]impl.Poly](t)(impl.SpanOf(p, k.m, list))
+				expectList(t, "KernelOfSkew", results(impl.KernelOfSkew(p, k.m, f)), span)
+			}
+		}
+	}
+}

@@ -42,7 +42,7 @@ func callsOfChapter1() []call {
 }
 
 func allCalls() []call {
-	return slices.Concat(callsOfChapter1(), callsOfChapter2(), callsOfChapter4(), callsOfChapter5(), callsOfChapter6(), callsOfChapter7(), callsOfChapter8())
+	return slices.Concat(callsOfChapter1(), callsOfChapter2(), callsOfChapter4(), callsOfChapter5(), callsOfChapter6(), callsOfChapter7(), callsOfChapter8(), callsOfChapter10())
 }
 
 func TestWrongPrimesComeFirst(t *testing.T) {

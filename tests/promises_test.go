@@ -972,3 +972,99 @@ func TestPromise15(t *testing.T) {
 		}
 	}
 }
+
+// Promise 10: continued fractions come back from their convergents, and roots square to the beginning of
+// the polynomial.
+func TestPromise10(t *testing.T) {
+	s := &sampler{state: 550}
+	ok := must[impl.Poly](t)
+	for _, p := range primes {
+		for range 100 {
+			list := s.partials(p, 1+int(s.below(impl.MaxPartials)), impl.MaxDegree)
+			overs, unders, code := impl.ConvergentsOf(p, list)
+			if code != impl.ErrNone || len(overs) != len(list) || len(unders) != len(list) {
+				t.Fatalf("ConvergentsOf(%d, %v) = %v, %v, %d", p, list, overs, unders, code)
+			}
+			for k := range list {
+				expect(t, "ContinuedFraction", results(impl.ContinuedFraction(p, overs[k], unders[k])), list[:k+1])
+			}
+		}
+	}
+	for _, p := range oddPrimes {
+		for _, d := range s.squareCases(t, p) {
+			// R squared has all of D above T^(g - 1), and each digit reaches one power further down.
+			root := ok(impl.RootPart(p, d))
+			left := ok(impl.SubtractPolys(p, d, ok(impl.MultiplyPolys(p, root, root))))
+			if g := degreeOf(d) / 2; degreeOf(left) >= g {
+				t.Errorf("%d: the root of %v begins with %v", p, d, root)
+			}
+			for _, n := range []int{1, 7, impl.MaxDigits} {
+				checkRoot(t, p, d, n)
+			}
+		}
+	}
+}
+
+// The guarantee at the end of chapter 10, where it says more than the promise.
+func TestGuaranteeOfChapter10(t *testing.T) {
+	s := &sampler{state: 551}
+	for _, p := range primes {
+		neighbours := 0
+		for range 300 {
+			list := s.actions(p, 2+int(s.below(impl.MaxPartials-1)), int(s.below(5)))
+			overs, unders, code := impl.ConvergentsOf(p, list)
+			if code != impl.ErrNone {
+				continue
+			}
+			for k := 1; k < len(list); k++ {
+				neighbours++
+				// It is 1 for the first two, and has the other sign for each two that follow.
+				want := plain{1, p - 1}[(k+1)%2 : (k+1)%2+1]
+				if got := crosswise(p, overs[k], unders[k], overs[k-1], unders[k-1]); !got.equals(want) {
+					t.Errorf("%d: %v has the convergents %v and %v, which make %v", p, list, overs, unders, got)
+				}
+			}
+		}
+		if neighbours < 500 {
+			t.Errorf("%d: only %d neighbours are found", p, neighbours)
+		}
+	}
+	for _, p := range oddPrimes {
+		for _, d := range s.squareCases(t, p) {
+			digits := must[[]int64](t)(impl.DigitsOfRoot(p, d, impl.MaxDigits))
+			isZero := slices.Max(digits) == 0
+			expect(t, "IsSquarePoly", results(impl.IsSquarePoly(p, d)), isZero)
+		}
+	}
+}
+
+// Promise 14: exponentials of sums are sums. So are logarithms.
+func TestPromise14(t *testing.T) {
+	s := &sampler{state: 552}
+	ok := must[impl.Poly](t)
+	for _, p := range primes {
+		for _, e := range bothSeries() {
+			found := 0
+			for range 600 {
+				x, y := s.small(p, 3), s.small(p, 3)
+				across := ok(impl.AddPolys(p, ok(impl.MultiplyPolys(p, x.a, y.b)), ok(impl.MultiplyPolys(p, y.a, x.b))))
+				both := quotient{across, ok(impl.MultiplyPolys(p, x.b, y.b))}
+				for n := int64(1); n <= 4; n++ {
+					if !e.fits(p, x, n) || !e.fits(p, y, n) || !e.fits(p, both, n) {
+						continue
+					}
+					if n > 1 {
+						found++
+					}
+					want := e.told(t, p, x, n).plus(p, 1, e.told(t, p, y, n))
+					if !e.told(t, p, both, n).equals(p, want) {
+						t.Errorf("%s for %d: that of %v and %v together is not the sum, up to %d", e.name, p, x, y, n)
+					}
+				}
+			}
+			if found < 100 {
+				t.Errorf("%s for %d: only %d sums are found", e.name, p, found)
+			}
+		}
+	}
+}

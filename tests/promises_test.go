@@ -1,7 +1,9 @@
 package tests
 
 import (
+	"fmt"
 	"slices"
+	"strings"
 	"testing"
 
 	"loop.example/g01245/impl"
@@ -1065,6 +1067,72 @@ func TestPromise14(t *testing.T) {
 			if found < 100 {
 				t.Errorf("%s for %d: only %d sums are found", e.name, p, found)
 			}
+		}
+	}
+}
+
+// Promise 11: lines lead from desks to desks, and the console joins their outputs.
+func TestPromise11(t *testing.T) {
+	s := &sampler{state: 650}
+	for round := range 300 {
+		p := primes[round%4]
+		d := impl.NewDesk()
+		var lines []string
+		joined := ""
+		for range 1 + s.below(impl.MaxLines) {
+			line := s.anyLine(p)
+			if len(lines) == 0 {
+				line = fmt.Sprint("prime ", p)
+			}
+			lines = append(lines, line)
+			if line == "" {
+				continue
+			}
+			var output string
+			d, output = impl.RunLine(d, line)
+			if !impl.IsDesk(d) || output == "" || strings.Contains(output, "\n") {
+				t.Fatalf("%q leads to %s with the output %q", line, shown(d), output)
+			}
+			joined += output + "\n"
+		}
+		text := strings.Join(lines, "\n") + "\n"
+		if len(text) > impl.MaxConsole {
+			continue
+		}
+		if got := impl.Console(text); got != joined {
+			t.Errorf("Console(%q) = %q, want %q", text, got, joined)
+		}
+		if got, accepted := impl.DeskAfter(text); got != d || !accepted {
+			t.Errorf("DeskAfter(%q) = %s, %v, want %s", text, shown(got), accepted, shown(d))
+		}
+	}
+}
+
+// The guarantee at the end of chapter 11, where it says more than the promise.
+func TestGuaranteeOfChapter11(t *testing.T) {
+	s := &sampler{state: 651}
+	for _, p := range primes {
+		wrong := 0
+		for _, d := range s.desks(t, p) {
+			if !impl.IsDesk(d) {
+				t.Fatalf("%s is no desk", shown(d))
+			}
+			for range 20 {
+				line := s.anyLine(p)
+				after, output := impl.RunLine(d, line)
+				if !impl.IsDesk(after) {
+					t.Errorf("%s: %q leads to %s", shown(d), line, shown(after))
+				}
+				if output == "error" {
+					wrong++
+					if after != d {
+						t.Errorf("%s: %q is wrong, and leads to %s", shown(d), line, shown(after))
+					}
+				}
+			}
+		}
+		if wrong < 1000 {
+			t.Errorf("%d: only %d lines are wrong", p, wrong)
 		}
 	}
 }
